@@ -71,6 +71,17 @@ def is_summer(summer, moment):
     return moment < end or moment >= beginning
 
 
+# The first of summer's beginnings and ends behind a moment; it may lie beyond all moments.
+def next_turn(summer, moment):
+    year = year_of(moment // MINUTES_OF_DAY)
+    found = []
+    # The year's own two may both have gone by; the next year's never have.
+    for each in (year, year + 1):
+        found.append(moment_of_turn(summer.begins, each))
+        found.append(moment_of_turn(summer.ends, each))
+    return min([turn for turn in found if turn > moment])
+
+
 def ahead_by(decree, moment):
     if decree.summer is not None and is_summer(decree.summer, moment):
         return decree.offset + decree.summer.more

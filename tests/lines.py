@@ -44,6 +44,30 @@ def moments(number, shown):
     return [6, number, shown]
 
 
+def meant(number, shown):
+    return [7, number, shown]
+
+
+def change(number, moment):
+    return [8, number, moment]
+
+
+def keep(number, shown):
+    return [9, number, shown]
+
+
+def when(kept):
+    return [10, kept]
+
+
+def there(kept, number):
+    return [11, kept, number]
+
+
+def ahead(moment):
+    return [12, moment]
+
+
 def taken_apart(numbers):
     parts = []
     at = 0

@@ -1,13 +1,19 @@
 """Holds what is answered against Python's own calendar, at moments that are drawn from a fixed seed."""
 
 import datetime
+import functools
 import random
 import unittest
 
-from lines import BEYOND, EPOCH, LAST, at, decree, moments, offset, place, shows, summer, told
+from lines import BEYOND, EPOCH, LAST, at, change, decree, meant, moments, offset, place, shows, summer, told
 
 
 def turn_by_calendar(row, year):
+    return turn_gone_through(tuple(row), year)
+
+
+@functools.lru_cache(maxsize=None)
+def turn_gone_through(row, year):
     """Goes through the month day by day, from its beginning or its end."""
     from_end, rank, weekday, month, minute = row
     day = datetime.date(year, month, 1)
@@ -74,6 +80,41 @@ def drawn_moments(draw, decrees):
     return found + [draw.randint(0, LAST) for _ in range(10)]
 
 
+def changes_by_calendar(decrees, first, last):
+    """Each change from the first of these moments to the last one, found minute by minute."""
+    found = []
+    before = ahead_by_calendar(decrees, first - 1) if first else None
+    for moment in range(first, last + 1):
+        then = ahead_by_calendar(decrees, moment)
+        if before is not None and then != before:
+            found.append([moment, before, then])
+        before = then
+    return found
+
+
+def changes_of_a_century(decrees):
+    """Each change, found among all decrees' moments and all turns of all their summers."""
+    found = set(decrees)
+    for minutes, more, begins, ends in decrees.values():
+        for year in range(2000, 2100) if more else ():
+            found |= {turn_by_calendar(begins, year), turn_by_calendar(ends, year)}
+    pairs = [(moment, ahead_by_calendar(decrees, moment - 1), ahead_by_calendar(decrees, moment))
+             for moment in sorted(found - {0})]
+    return [list(pair) for pair in pairs if pair[1] != pair[2]]
+
+
+def meant_by_calendar(decrees, shown):
+    """Goes through the moments one by one, as the words tell."""
+    first_with_more = None
+    for moment in range(max(0, shown - 1000), min(LAST, max(0, shown) + 2000) + 1):
+        shows_then = moment + ahead_by_calendar(decrees, moment)
+        if shows_then == shown:
+            return [moment, 1]
+        if shows_then > shown and first_with_more is None:
+            first_with_more = moment
+    return [-6] if first_with_more is None else [first_with_more, 0]
+
+
 class AgainstCalendarTest(unittest.TestCase):
     def shown_by_calendar(self, decrees, moment):
         shown = moment + ahead_by_calendar(decrees, moment)
@@ -109,6 +150,47 @@ class AgainstCalendarTest(unittest.TestCase):
                 with self.subTest(decrees=decrees, shown=shown):
                     found = by_shown.get(shown, [])
                     self.assertEqual(answer, [len(found)] + found)
+
+    def test_meant(self):
+        draw = random.Random(3)
+        for _ in range(60):
+            decrees = drawn_decrees(draw)
+            line = line_of(draw, decrees)
+            asked = [draw.choice(drawn_moments(draw, decrees)) + draw.randint(-1000, 1000) for _ in range(12)]
+            answered = told(*line, *[meant(0, shown) for shown in asked])[len(line):]
+            for shown, answer in zip(asked, answered):
+                with self.subTest(decrees=decrees, shown=shown):
+                    self.assertEqual(answer, meant_by_calendar(decrees, shown))
+
+    def test_change_minute_by_minute(self):
+        draw = random.Random(4)
+        for _ in range(60):
+            decrees = drawn_decrees(draw)
+            line = line_of(draw, decrees)
+            middle = draw.choice(drawn_moments(draw, decrees))
+            first, last = max(0, middle - 1000), min(LAST, middle + 1000)
+            found = changes_by_calendar(decrees, first, last)
+            asked = [first, middle] + [each[0] + step for each in found[:15] for step in (-1, 0)]
+            answered = told(*line, *[change(0, moment) for moment in asked])[len(line):]
+            for moment, answer in zip(asked, answered):
+                with self.subTest(decrees=decrees, moment=moment):
+                    behind = [each for each in found if each[0] > moment]
+                    if behind:
+                        self.assertEqual(answer, behind[0])
+                    else:
+                        self.assertTrue(answer == [-6] or answer[0] > last)
+
+    def test_change_through_the_century(self):
+        draw = random.Random(5)
+        for _ in range(60):
+            decrees = drawn_decrees(draw)
+            line = line_of(draw, decrees)
+            found = changes_of_a_century(decrees)
+            asked = draw.sample(drawn_moments(draw, decrees), 15) + [each[0] for each in draw.sample(found, 3)]
+            answered = told(*line, *[change(0, moment) for moment in asked])[len(line):]
+            for moment, answer in zip(asked, answered):
+                with self.subTest(decrees=decrees, moment=moment):
+                    self.assertEqual(answer, ([each for each in found if each[0] > moment] + [[-6]])[0])
 
     def test_every_day_has_its_date(self):
         for first in range(0, 36525, 59):
